@@ -1,0 +1,1 @@
+"""Slideinto: bodies of squares that slide into each other."""
