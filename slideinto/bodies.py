@@ -1,6 +1,6 @@
 """Bodies: ascending tuples of unlike cells that hang together."""
 
-from slideinto.cells import checked_cell, checked_lot, flood, four_beside, is_cell, lot_hangs, lot_of
+from slideinto.cells import checked_cell, checked_lot, flood, four_beside, free_in, is_cell, lot_hangs, lot_of
 from slideinto.cells import near_in, rest_counts, shifted
 from slideinto.errors import BadBody
 
@@ -37,6 +37,13 @@ def is_body(value):
     return list(value) == sorted(lot) and lot_hangs(lot)
 
 
+def lot_of_body(value):
+    """The lot of the squares of a body; BadBody for a value that is none."""
+    if not is_body(value):
+        raise BadBody(value)
+    return lot_of(value)
+
+
 def body_of(cells):
     """The body of these cells, which may come in any order and more than once."""
     lot = checked_lot(cells)
@@ -53,8 +60,7 @@ def neighbours_of(body, cell):
 
 def free_squares(body):
     """The ascending tuple of the squares without which the others hang together."""
-    counts = rest_counts(lot_of(body))
-    return tuple(sorted([square for square in counts if counts[square] == 1]))
+    return tuple(free_in(lot_of(body)))
 
 
 def cut_squares(body):

@@ -6,6 +6,11 @@ gone over, and it keeps the order of its cells.
 
 from slideinto.errors import BadCell
 
+EAST = (1, 0)
+NORTH = (0, 1)
+WEST = (-1, 0)
+CROSSWISE = ((-1, -1), (1, -1), (1, 1), (-1, 1))
+
 
 def is_whole(value):
     """Whether a value is an integer; True and False are none."""
@@ -58,6 +63,17 @@ def lot_without(lot, cell):
     return {other: True for other in lot if other != cell}
 
 
+def put(lot, start, end):
+    """Puts the cell end into a lot in the place of the cell start."""
+    del lot[start]
+    lot[end] = True
+
+
+def body_in(lot):
+    """The ascending tuple of the cells of a lot."""
+    return tuple(sorted(lot))
+
+
 def near_in(lot, cell):
     """The list of the cells of a lot that lie beside a cell."""
     return [near for near in four_beside(cell) if near in lot]
@@ -79,6 +95,42 @@ def flood(lot, first):
 def lot_hangs(lot):
     """Whether a lot hangs together; one without cells does not."""
     return len(lot) > 0 and len(flood(lot, min(lot))) == len(lot)
+
+
+def hangs_without(lot, cell):
+    """Whether the other cells of a lot that hangs together do so, too; if there are none they do not."""
+    around = near_in(lot, cell)
+    if len(around) < 2 or links_around(lot, cell) >= len(around) - 1:
+        return len(around) > 0
+    found = {cell: True, around[0]: True}
+    ahead = [around[0]]
+    missing = len(around) - 1
+    while ahead and missing > 0:
+        place = ahead.pop()
+        for near in near_in(lot, place):
+            if near not in found:
+                found[near] = True
+                ahead.append(near)
+                if near in around:
+                    missing -= 1
+    return missing == 0
+
+
+def links_around(lot, cell):
+    """How many cells crosswise from a cell lie in a lot, each between two neighbours of the cell in the lot."""
+    column, row = cell
+    links = 0
+    for across, up in CROSSWISE:
+        crosswise = (column + across, row + up)
+        if crosswise in lot and (crosswise[0], row) in lot and (column, crosswise[1]) in lot:
+            links += 1
+    return links
+
+
+def free_in(lot):
+    """The ascending list of the cells of a lot that hangs together without which the others hang together."""
+    counts = rest_counts(lot)
+    return sorted([cell for cell in counts if counts[cell] == 1])
 
 
 def rest_counts(lot):

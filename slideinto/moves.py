@@ -1,7 +1,7 @@
 """Moves: a square slides along two neighbours, or turns round the corner of one."""
 
 from slideinto.bodies import free_squares
-from slideinto.cells import checked_cell, lot_hangs, lot_of, lot_without, shifted
+from slideinto.cells import body_in, checked_cell, hangs_without, lot_of, put, shifted
 from slideinto.errors import NoMove, NotThere
 
 # Ascending, so that the moves of one square come out ascending.
@@ -34,14 +34,14 @@ def done(body, start, end):
         raise NotThere(start)
     if kind_in(lot, source, goal) is None:
         raise NoMove(start, end)
-    rest = lot_without(lot, source)
-    return tuple(sorted([*rest, goal]))
+    put(lot, source, goal)
+    return body_in(lot)
 
 
 def kind_in(lot, start, end):
     """The kind of a move of the body with the squares of this lot, None if it is no move."""
     kind = kind_by_place(lot, start, end)
-    if kind is None or not lot_hangs(lot_without(lot, start)):
+    if kind is None or not hangs_without(lot, start):
         return None
     return kind
 

@@ -1,5 +1,7 @@
 """Bodies for the tests, and what the document says of them, told a second time in the plainest way."""
 
+import unittest
+
 SIDES = ((-1, 0), (0, -1), (1, 0), (0, 1))
 
 
@@ -93,11 +95,91 @@ def grown(many, seed):
     cells = [(0, 0)]
     number = seed
     while len(cells) < many:
-        number = (number * 1103515245 + 12345) % 2147483648
+        number = drawn(number)
         cell = add(cells[(number >> 8) % len(cells)], SIDES[(number >> 4) % 4])
         if cell not in cells:
             cells.append(cell)
     return tuple(sorted(cells))
+
+
+def path(first, ways):
+    """The body of a way through cells that goes to the E, N, W and S."""
+    cells = [first]
+    for way in ways:
+        cells.append(add(cells[-1], SIDES["WSEN".index(way)]))
+    return tuple(sorted(set(cells)))
+
+
+def rolled():
+    """A path that rolls itself in, its ends within, with a pocket that opens at a corner alone."""
+    return path((2, 0), "WSSEEENNNNNNWWWWWWSSSEEN")
+
+
+def rolled_twice():
+    """A path like rolled, one end of which rolls itself in once more, within the pocket."""
+    return path((2, 0), "WSSEEEE" + "N" * 13 + "W" * 8 + "S" * 10 + "EEENNNWNNNNNEEEESSSSWWNN")
+
+
+def carved(wide, high, many, seed):
+    """A block from which squares were taken until so many are left: a body with many regions and gaps."""
+    body = block(wide, high)
+    number = seed
+    while len(body) > many:
+        number = drawn(number)
+        square = body[(number >> 8) % len(body)]
+        rest = tuple(cell for cell in body if cell != square)
+        if len(plain_parts(rest)) == 1:
+            body = rest
+    return body
+
+
+def drawn(number):
+    """The next of numbers that look as if they came by chance."""
+    return (number * 1103515245 + 12345) % 2147483648
+
+
+def drawn_plan(body, many, seed, moves_of, done):
+    """A plan of so many moves that look as if they came by chance."""
+    plan = []
+    number = seed
+    while len(plan) < many:
+        moves = moves_of(body)
+        number = drawn(number)
+        plan.append(moves[(number >> 8) % len(moves)])
+        body = done(body, *plan[-1])
+    return tuple(plan)
+
+
+def images(cell):
+    """A cell turned and mirrored in all eight ways."""
+    column, up = cell
+    turned = [(column, up), (-up, column), (-column, -up), (up, -column)]
+    return turned + [(across, other) for other, across in turned]
+
+
+def image(body, way):
+    """A body turned and mirrored in one of eight ways."""
+    return tuple(sorted(images(square)[way] for square in body))
+
+
+def frame_around(body, far):
+    """The list of all cells of the frame of a body and of so many cells around it."""
+    columns = [column for column, up in body]
+    rows = [up for column, up in body]
+    return [
+        (column, up)
+        for column in range(min(columns) - far, max(columns) + far + 1)
+        for up in range(min(rows) - far, max(rows) + far + 1)
+    ]
+
+
+def plain_regions(body):
+    """The regions as ascending tuples, the cells of the outside next to the frame first."""
+    lots = plain_parts(set(frame_around(body, 1)) - set(body))
+    corner = frame_around(body, 1)[0]
+    outside = [lot for lot in lots if corner in lot]
+    others = [lot for lot in lots if corner not in lot]
+    return [tuple(sorted(lot)) for lot in outside] + sorted(tuple(sorted(lot)) for lot in others)
 
 
 def large_bodies():
@@ -120,3 +202,22 @@ def many_bodies():
 
 
 NO_CELLS = (None, 0, "ab", "", [0, 0], (), (0,), (0, 0, 0), (True, 0), (0, False), (0, "1"), (None, 0), ((0, 0), 0), {})
+
+NO_BODIES = (
+    None, 0, "ab", (), [(0, 0)], [(0, 0), (1, 0)], ((0, 1), (0, 0)), ((0, 0), (0, 0)), ((0, 0), (2, 0)),
+    ((0, 0), (1, 1)), ((True, 0),), ((0, 0), None), ((0, 0), [0, 1]), (0, 0), {}, 1.5,
+)
+
+NO_NUMBERS = (None, True, False, "1", "", (1,), [1], {}, 1.0)
+
+
+class Case(unittest.TestCase):
+    def assert_error(self, error, call, *values, **named):
+        """A call raises an error with the told attributes, which are the passed values where they are no literals."""
+        kind, *told = error
+        with self.assertRaises(kind) as caught:
+            call(*values, **named)
+        self.assertIs(type(caught.exception), kind)
+        kept = list(vars(caught.exception).values())
+        self.assertEqual([type(value) for value in kept], [type(value) for value in told])
+        self.assertEqual(kept, told)

@@ -2,7 +2,7 @@
 
 import unittest
 
-from tests.helper import NO_CELLS, all_shapes, block, large_bodies, many_bodies, plain_kind, ring, row
+from tests.helper import NO_CELLS, all_shapes, block, images, large_bodies, many_bodies, plain_kind, ring, row
 
 from slideinto.bodies import frame_of, free_squares, is_body, moved
 from slideinto.errors import BadCell, NoMove, NotThere
@@ -40,13 +40,6 @@ def square_around(cell, far):
     """The cells around a cell, and itself, ascending."""
     steps = range(-far, far + 1)
     return [(cell[0] + across, cell[1] + up) for across in steps for up in steps]
-
-
-def images(cell):
-    """A cell turned and mirrored in all eight ways."""
-    column, up = cell
-    turned = [(column, up), (-up, column), (-column, -up), (up, -column)]
-    return turned + [(across, other) for other, across in turned]
 
 
 def in_all_ways(rest, end):
