@@ -23,6 +23,8 @@ LIBRARY = {
 
 AT_THE_TOP = (ast.ImportFrom, ast.FunctionDef, ast.ClassDef, ast.Assign)
 
+PLACES = (ast.Name, ast.Attribute)
+
 NEVER = (ast.Import, ast.AsyncFunctionDef, ast.Await, ast.AsyncFor, ast.AsyncWith, ast.Div)
 
 
@@ -97,6 +99,46 @@ class LanguageTest(unittest.TestCase):
                 self.assertNotIsInstance(node, NEVER, name)
                 if isinstance(node, ast.Constant):
                     self.assertNotIsInstance(node.value, (float, complex), name)
-                if isinstance(node, ast.Name) and hasattr(builtins, node.id):
+                # Examples that are run in the same process leave a builtin of the name _.
+                if isinstance(node, ast.Name) and node.id != "_" and hasattr(builtins, node.id):
                     self.assertIn(node.id, BUILTINS, name)
                     self.assertIsInstance(node.ctx, ast.Load, name)
+
+    def test_no_local_name_is_that_of_an_import_or_a_class(self):
+        for name, tree in self.trees():
+            taken = []
+            for node in tree.body:
+                if isinstance(node, (ast.ImportFrom, ast.ClassDef)):
+                    taken += self.bound_by(node)
+            for node in ast.walk(tree):
+                if isinstance(node, ast.arg):
+                    self.assertNotIn(node.arg, taken, name)
+                if isinstance(node, ast.Name) and isinstance(node.ctx, ast.Store):
+                    self.assertNotIn(node.id, taken, name)
+
+    def test_no_loop_changes_what_it_goes_over(self):
+        for name, tree in self.trees():
+            for node in ast.walk(tree):
+                if isinstance(node, ast.For):
+                    gone_over = {ast.unparse(part) for part in ast.walk(node.iter) if isinstance(part, PLACES)}
+                    changed = [ast.unparse(place) for row in node.body for place in self.changed_in(row)]
+                    self.assertEqual([place for place in changed if place in gone_over], [], (name, node.lineno))
+
+    def changed_in(self, tree):
+        for node in ast.walk(tree):
+            if isinstance(node, ast.Call) and isinstance(node.func, ast.Attribute):
+                if node.func.attr in ("append", "extend", "pop", "clear", "insert", "remove", "setdefault", "update"):
+                    yield node.func.value
+            if isinstance(node, ast.Subscript) and not isinstance(node.ctx, ast.Load):
+                yield node.value
+
+    def test_no_two_files_import_from_each_other(self):
+        imports = {}
+        for name, tree in self.trees():
+            told = [node.module for node in ast.walk(tree) if isinstance(node, ast.ImportFrom)]
+            imports[f"slideinto.{name[:-3]}"] = [module for module in told if module.startswith("slideinto.")]
+        left = dict(imports)
+        while left:
+            ready = [module for module in left if not any(other in left for other in left[module])]
+            self.assertNotEqual(ready, [], left)
+            left = {module: left[module] for module in left if module not in ready}
