@@ -120,6 +120,13 @@ def rolled_twice():
     return path((2, 0), "WSSEEEE" + "N" * 13 + "W" * 8 + "S" * 10 + "EEENNNWNNNNNEEEESSSSWWNN")
 
 
+def rolled_at_both_ends():
+    """A path both ends of which roll themselves in once more, each within a pocket of its own."""
+    one_end = "SSEENNNNWWWWSSSSSE" + "S" + "WWWWW"
+    round_it = "SS" + "E" * 10 + "N" * 12 + "W" * 14 + "S" * 9 + "EEENN"
+    return path((7, 4), one_end + round_it + "WNNNNNEEEESSSSWWNN")
+
+
 def carved(wide, high, many, seed):
     """A block from which squares were taken until so many are left: a body with many regions and gaps."""
     body = block(wide, high)

@@ -2,7 +2,7 @@
 
 from tests.helper import NO_BODIES, NO_CELLS, NO_NUMBERS, Case, add, all_shapes, block, carved, cells_beside, drawn
 from tests.helper import grown, image, many_bodies, path, plain_free, plain_parts, plain_regions, ring, rolled
-from tests.helper import rolled_twice, row, spiral
+from tests.helper import rolled_at_both_ends, rolled_twice, row, spiral
 
 from slideinto.bodies import frame_of, free_squares, is_body, moved
 from slideinto.borders import border, hung, region_at
@@ -30,7 +30,7 @@ def hanging_comb(teeth, deep):
 
 def bodies_rolled_in():
     """Bodies without an outer free square, in all eight positions, some with more squares within."""
-    told = [image(body, way) for body in (rolled(), rolled_twice()) for way in range(8)]
+    told = [image(body, way) for body in (rolled(), rolled_twice(), rolled_at_both_ends()) for way in range(8)]
     for seed in range(1, 40):
         body = rolled() if seed % 2 else rolled_twice()
         number = seed
