@@ -299,9 +299,3 @@ class LimitsTest(Case):
                 self.assertTrue(border(body, number + 1))
             self.assertLessEqual(len(hung(body)), len(inner))
         self.assertEqual(len(regions(bodies["wide"])[0]), 58 * 40)
-
-
-class InterfaceTest(Case):
-    def test_all_is_defined_in_this_file(self):
-        for call in (regions, region_at, border, gaps, hung):
-            self.assertEqual(call.__module__, "slideinto.borders")

@@ -297,9 +297,3 @@ class LimitsTest(Case):
         self.assertEqual(len(climb((0, 0), 40, -160)), 6400)
         self.assertEqual(end_of(row_at((0, 0), 40), stand((0, 0), 40)), column_at((39, 0), 40))
         self.assertEqual(end_of(row_at((0, 0), 40), row_plan((0, 0), (160, 160), 40)), row_at((160, 160), 40))
-
-
-class InterfaceTest(Case):
-    def test_all_is_defined_in_this_file(self):
-        for call in (row_at, column_at, crawl, climb, stand, lie, row_plan, plan_between, bound_between):
-            self.assertEqual(call.__module__, "slideinto.joining")

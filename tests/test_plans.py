@@ -166,10 +166,12 @@ class MovedPlanTest(PlansTest):
         self.assertEqual(moved_plan((), (5, 5)), ())
         self.assertEqual(moved_plan([((0, 0), (1, -1))], (-3, 4)), (((-3, 4), (-2, 3)),))
         self.assertEqual(moved_plan(PLAN, (0, 0)), PLAN)
-        self.assertEqual(moved_plan((((1, 2), (2, 2)),), (LARGE, -FAR)), (((LARGE + 1, 2 - FAR), (LARGE + 2, 2 - FAR)),))
+        told = (((LARGE + 1, 2 - FAR), (LARGE + 2, 2 - FAR)),)
+        self.assertEqual(moved_plan((((1, 2), (2, 2)),), (LARGE, -FAR)), told)
 
     def test_pairs_need_be_no_moves(self):
-        self.assertEqual(moved_plan((((0, 0), (9, 9)), ((0, 0), (0, 0))), (1, 0)), (((1, 0), (10, 9)), ((1, 0), (1, 0))))
+        plan = (((0, 0), (9, 9)), ((0, 0), (0, 0)))
+        self.assertEqual(moved_plan(plan, (1, 0)), (((1, 0), (10, 9)), ((1, 0), (1, 0))))
 
     def test_no_tuple_of_two_integers(self):
         for value in NO_CELLS:
@@ -214,9 +216,3 @@ class LimitsTest(PlansTest):
             self.assertEqual(len(there_and_back), 2000)
             self.assert_plan(body, there_and_back, body)
             self.assert_wrong(body, there_and_back + (((0, 0), (0, 0)),), 2000)
-
-
-class InterfaceTest(Case):
-    def test_all_is_defined_in_this_file(self):
-        for call in (first_wrong, bodies_of, end_of, back, moved_plan):
-            self.assertEqual(call.__module__, "slideinto.plans")

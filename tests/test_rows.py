@@ -418,9 +418,3 @@ class LimitsTest(Case):
             told = loosened(body)
             self.assertEqual(end_of(body, told.moves), told.body)
             self.assertTrue(outer_free(told.body))
-
-
-class InterfaceTest(Case):
-    def test_all_is_defined_in_this_file(self):
-        for call in (outer_free, parts_without, Loosened, loosened, nook_of, Rowed, plan_to_row, bound_to_row):
-            self.assertEqual(call.__module__, "slideinto.rows")

@@ -391,9 +391,3 @@ class LimitsTest(ShorterTest):
         plan = crawl((0, 0), 40, 12)
         self.assert_told(shorter, row(40), (plan + back(plan))[:960], ())
         self.assert_told(joined, row(40), plan + back(plan), ())
-
-
-class InterfaceTest(Case):
-    def test_all_is_defined_in_this_file(self):
-        for call in (without_returns, joined, few_moves, tightened, shorter):
-            self.assertEqual(call.__module__, "slideinto.shorter")

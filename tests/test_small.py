@@ -230,9 +230,3 @@ class LimitsTest(Case):
                 self.assertEqual(len(plan), len(told) - 1)
                 self.assertIsNone(first_wrong(body, plan))
         self.assertEqual(frame_of(layers(row(7))[-1][0]), (0, 0, 0, 6))
-
-
-class InterfaceTest(Case):
-    def test_all_is_defined_in_this_file(self):
-        for call in (all_shapes, layers, Least, least_plan, farthest):
-            self.assertEqual(call.__module__, "slideinto.small")

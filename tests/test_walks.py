@@ -259,9 +259,3 @@ class LimitsTest(Case):
                 plan = walk(body, start, cells[len(cells) // 2])
                 self.assertIsNone(first_wrong(body, plan))
                 self.assertEqual(walk_length(body, start, cells[-1]), len(walk(body, start, cells[-1])))
-
-
-class InterfaceTest(Case):
-    def test_all_is_defined_in_this_file(self):
-        for call in (reach, walk, walk_length):
-            self.assertEqual(call.__module__, "slideinto.walks")
