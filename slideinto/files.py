@@ -36,9 +36,9 @@ def parts_in(text):
     for number, line in enumerate(lines_of(text), start=1):
         words = words_of(line)
         if begins_part(line):
-            check_words(words, ("world", "NAME"), number)
-            if words[1] in parts:
+            if len(words) > 1 and words[1] in parts:
                 raise BadText(number, 2)
+            check_words(words, ("world", "NAME"), number)
             part = Part(words[1], [], number)
             parts[words[1]] = part
         elif part is None:
