@@ -30,7 +30,7 @@ class Matcher:
 
     def take(self, row):
         """Pairs one more row, and others anew where this is cheaper."""
-        rest = {column: (self.left(row, column), None) for column in range(len(self.costs))}
+        rest = {other: (self.left(row, other), None) for other in range(len(self.costs))}
         met = []
         column = nearest(rest)
         least, before = rest.pop(column)

@@ -190,7 +190,7 @@ def state_with(state, name, number, rows):
         if begins_part(row):
             raise BadText(number + index, 1)
     old = state.table[name].rows
-    item = item_from(Part(name, old[:number - 1] + rows + old[number:], 0))
+    item = item_from(Part(old[:number - 1] + rows + old[number:], 0))
     table = {other: item if other == name else state.table[other] for other in state.table}
     return State(table, state.vows)
 

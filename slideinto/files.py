@@ -7,10 +7,9 @@ from slideinto.worlds import played
 
 
 class Part:
-    """The lines of a story with a name; ahead tells how many lines of the whole text stand ahead of them."""
+    """The lines of one story of a text; ahead tells how many lines of the text stand ahead of them."""
 
-    def __init__(self, name, rows, ahead):
-        self.name = name
+    def __init__(self, rows, ahead):
         self.rows = rows
         self.ahead = ahead
 
@@ -39,7 +38,7 @@ def parts_in(text):
             if len(words) > 1 and words[1] in parts:
                 raise BadText(number, 2)
             check_words(words, ("world", "NAME"), number)
-            part = Part(words[1], [], number)
+            part = Part([], number)
             parts[words[1]] = part
         elif part is None:
             raise BadText(number, 1)

@@ -95,7 +95,7 @@ def sorting(order, wished):
 def order_behind(order, steps):
     """The order behind some steps."""
     names = checked_order(order)
-    if not isinstance(steps, (list, tuple)) or not all(is_step(step) for step in steps):
+    if not isinstance(steps, (list, tuple)) or not all(step in (TURN, HOLD) for step in steps):
         raise BadNumber("steps", steps)
     for step in steps:
         names = names_behind_step(names, step)
@@ -170,11 +170,6 @@ def checked_order(order):
     if not is_order(order):
         raise BadNumber("order", order)
     return [str(name) for name in order]
-
-
-def is_step(value):
-    """Whether a value is the word for a step of sorting."""
-    return isinstance(value, str) and value in (TURN, HOLD)
 
 
 def names_behind_step(names, step):

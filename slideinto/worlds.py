@@ -171,7 +171,7 @@ def checked_bodies(bodies):
     places = [body_or_none(cells) for cells in bodies]
     first = places[0]
     for place in places:
-        if first is None or place is None or len(place) != len(first) or (len(first) == 1 and place != first):
+        if place is None or len(place) != len(first) or (len(first) == 1 and place != first):
             raise BadNumber("bodies", bodies)
     return places
 

@@ -144,6 +144,12 @@ class FilledTest(Case):
         self.assertEqual(shut_lots(SHUT), ((1, 2), (3,)))
         self.assertEqual(filled(SHUT), union(block(4, 4), row(3, (4, 0)), row(3, (4, 1)), row(3, (4, 2))))
 
+    def test_a_row_of_gaps(self):
+        body = tuple(sorted(set(block(6, 6)) - {(k, k) for k in range(1, 5)}))
+        self.assertEqual(shut_lots(body), ((1, 2, 3, 4),))
+        self.assertEqual(shut_lots(image(body, 1)), ((1, 2, 3, 4),))
+        self.assertEqual(filled(body), block(6, 6))
+
     def test_against_the_plain_telling(self):
         many = 0
         for body in few_bodies():

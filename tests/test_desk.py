@@ -206,6 +206,17 @@ class EditsTest(DeskTest):
         self.assertEqual(desk.promises()[1:4], ("two there", "two like two", "one becomes two 99999"))
         self.assertEqual(desk.lines(), FILE)
 
+    def test_drop_knows_names_from_other_words(self):
+        desk = Desk(item("one", ONE) + item("moved", TWO) + item("like", TWO))
+        for promise in ("one moved 3", "moved like like", "like like like", "one loose 1"):
+            desk.keep(promise)
+        desk.drop("like")
+        self.assertEqual(desk.promises(), ("one moved 3", "one loose 1"))
+        desk.drop("moved")
+        self.assertEqual(desk.promises(), ("one moved 3", "one loose 1"))
+        desk.drop("one")
+        self.assertEqual(desk.promises(), ())
+
     def test_rename(self):
         desk = at_desk()
         self.assertIsNone(desk.rename("two", "there"))

@@ -8,7 +8,8 @@ from slideinto.errors import BadBody, BadCell, BadNumber, NoMove, NotThere
 from slideinto.joining import bound_between, column_at, plan_between
 from slideinto.moves import done, moves_of
 from slideinto.plans import back, bodies_of, end_of, first_wrong
-from slideinto.worlds import World, meet, played, refused
+from slideinto.rows import plan_to_row
+from slideinto.worlds import World, many_between, meet, played, refused, upright_moves
 
 FAR = 10 ** 30
 LARGE = 10 ** 5000
@@ -438,6 +439,17 @@ class MeetTest(Case):
             bodies = [carved(5, 5, 14, seed), moved(grown(14, seed), (9, -seed)), moved(row(14), (-20, 30)), spiral(14)]
             self.assert_met(bodies)
             self.assert_met([image(body, seed) for body in bodies])
+
+    def test_the_moves_are_counted_rightly(self):
+        """The plans to all but the told target are not made, so what is counted for them is looked at here."""
+        for many in (2, 3, 4, 7):
+            shapes = [body for body in all_shapes(4) if len(body) == many] or [grown(7, seed) for seed in range(1, 6)]
+            for one in shapes[::2]:
+                for two in shapes[1::2]:
+                    for by in ((0, 0), (0, 1), (1, 0), (9, -1), (-9, 0), (3, 8), (-3, -8)):
+                        other = moved(two, by)
+                        told = many_between(plan_to_row(one), plan_to_row(other), upright_moves(many))
+                        self.assertEqual(told, len(plan_between(one, other)))
 
     def test_no_bodies(self):
         wrong = [
