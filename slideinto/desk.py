@@ -197,5 +197,7 @@ def state_with(state, name, number, rows):
 
 def check_promises(state):
     """NotKept for the first promise that is not kept."""
-    for promise, witness in broken_in(state.vows, state.table):
+    broken = broken_in(state.vows, state.table)
+    if broken:
+        promise, witness = broken[0]
         raise NotKept(promise, witness)
