@@ -23,10 +23,10 @@ class Matcher:
 
     def __init__(self, costs):
         self.costs = costs
-        self.ups = [0 for _ in costs]
-        self.downs = [0 for _ in costs]
+        self.ups = [0] * len(costs)
+        self.downs = [0] * len(costs)
         # The row that each column is paired with, None for none.
-        self.rows = [None for _ in costs]
+        self.rows = [None] * len(costs)
 
     def take(self, row):
         """Pairs one more row, and others anew where this is cheaper."""
@@ -41,7 +41,7 @@ class Matcher:
             least, before = rest.pop(column)
             met.append((column, before, least))
         self.raise_numbers(row, met, least)
-        self.pair_back(row, column, {place: earlier for place, earlier, _ in met})
+        self.pair_back(row, column, {place: earlier for place, earlier, way in met})
 
     def left(self, row, column):
         """What the cost of a row and a column has above their numbers."""

@@ -215,7 +215,7 @@ def ties_back(steps):
 
 def ties_ahead(ties):
     """For each step the list of the greater indexes of the steps with which it is tied."""
-    after = [[] for _ in ties]
+    after = [[] for earlier in ties]
     for index, earlier in enumerate(ties):
         for other in earlier:
             after[other].append(index)
